@@ -1,0 +1,1 @@
+"""Ringcrown: the greatest of a ring, found by letters."""
